@@ -1,0 +1,1 @@
+"""Words by distances: farwords.sums.answers is what is called."""
