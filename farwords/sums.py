@@ -14,15 +14,22 @@ WORDS = 8
 DIST = 9
 OFF = 10
 LEAST = 11
+TWOS = 12
+SUMS = 13
+SIGN = 14
+TILT = 15
+PATTERNS = 16
+EVEN = 17
+STRENGTH = 18
+UNEVEN = 19
+CLOSED = 20
+FARTHEST = 21
+ALIKE = 22
 
 # How many numbers each call is told, by the call's number, from begin (0) to alike (22).
 TOLD = (1, 1, 1, 0, 1, 2, 0, 0, 0, 2, 1, 0, 0, 0, 2, 1, 1, 1, 0, 0, 0, 0, 1)
 
 NOT_BEGUN = -61
-
-
-class NotBuilt(Exception):
-    """A call that the program does not answer yet: better no answer than a wrong one."""
 
 
 def answers(calls):
@@ -48,6 +55,8 @@ def answer(held, number, told):
         return [NOT_BEGUN]
     if number <= CLOSE:
         return change(held, number, told)
+    if number >= TWOS and number <= UNEVEN:
+        return reckon(held, number, told)
     return look(held, number, told)
 
 
@@ -67,7 +76,7 @@ def change(held, number, told):
 
 
 def look(held, number, told):
-    """The calls from many on, which change nothing."""
+    """The calls many to least and closed to alike, which tell of the words and how far apart they are."""
     if number == MANY:
         return held.many()
     if number == WORDS:
@@ -78,4 +87,27 @@ def look(held, number, told):
         return held.off(told[0])
     if number == LEAST:
         return held.least()
-    raise NotBuilt(f"call {number} is not built yet")
+    if number == CLOSED:
+        return held.closed()
+    if number == FARTHEST:
+        return held.farthest()
+    return held.alike(told[0])
+
+
+def reckon(held, number, told):
+    """The calls twos to uneven, which tell of sums and of sets of places."""
+    if number == TWOS:
+        return held.twos()
+    if number == SUMS:
+        return held.sums()
+    if number == SIGN:
+        return held.sign(told[0], told[1])
+    if number == TILT:
+        return held.tilt(told[0])
+    if number == PATTERNS:
+        return held.patterns(told[0])
+    if number == EVEN:
+        return held.even(told[0])
+    if number == STRENGTH:
+        return held.strength()
+    return held.uneven()

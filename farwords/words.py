@@ -53,3 +53,17 @@ def least_distance(there):
     for place in range(1, len(there)):
         nearest.append(min(distances(there[place], there[:place])))
     return min(nearest)
+
+
+def counts_from(bits, x, there):
+    """How many of the words are at distance 0, 1 and so on from x."""
+    far = distances(x, there)
+    return [far.count(i) for i in range(bits + 1)]
+
+
+def counts_of_twos(bits, there):
+    """How many twos of the words are at distance 0, 1 and so on."""
+    far = []
+    for x in there:
+        far.extend(distances(x, there))
+    return [far.count(i) for i in range(bits + 1)]

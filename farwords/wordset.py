@@ -1,6 +1,8 @@
 """The object that the calls are made on. Each call gives back the list of the numbers that are answered."""
 
-from farwords.words import closed_up, distance, distances, exchanged, least_distance, missing
+from farwords.places import first_uneven, is_even, kth_sum, pattern_counts, sign_sum, tilt_of
+from farwords.words import (
+    closed_up, counts_from, counts_of_twos, distance, distances, exchanged, least_distance, missing, weight)
 
 MOST_BITS = 6
 
@@ -9,6 +11,7 @@ NO_WORDS = -6
 ALREADY_THERE = -17
 DOES_NOT_FIT = -22
 NOT_TWO_WORDS = -33
+EVEN_EVERYWHERE = -33
 
 
 class WordSet:
@@ -92,3 +95,65 @@ class WordSet:
         if len(self.there) < 2:
             return [NOT_TWO_WORDS]
         return [least_distance(self.there)]
+
+    def farthest(self):
+        if len(self.there) == 0:
+            return [NO_WORDS]
+        offs = [min(distances(x, self.there)) for x in range(1 << self.bits)]
+        most = max(offs)
+        # The words at all are 0, 1 and so on, so where the most first stands is the first such word.
+        return [most, offs.index(most), offs.count(most)]
+
+    def alike(self, x):
+        if not self.fits(x):
+            return [DOES_NOT_FIT]
+        if x not in self.there:
+            return [NOT_THERE]
+        counts = counts_from(self.bits, x, self.there)
+        same = [word for word in self.there if counts_from(self.bits, word, self.there) == counts]
+        return [len(same)] + counts
+
+    def closed(self):
+        # Closing puts in just what is missing, so what is closed already stays as it is.
+        return [1 if closed_up(self.there) == self.there else 0]
+
+    def twos(self):
+        return [self.bits + 1] + counts_of_twos(self.bits, self.there)
+
+    def sums(self):
+        counts = counts_of_twos(self.bits, self.there)
+        return [self.bits + 1] + [kth_sum(self.bits, counts, k) for k in range(self.bits + 1)]
+
+    def sign(self, k, i):
+        if k > self.bits or i > self.bits:
+            return [DOES_NOT_FIT]
+        return [0, sign_sum(self.bits, k, i)]
+
+    def tilt(self, u):
+        if not self.fits(u):
+            return [DOES_NOT_FIT]
+        return [0, tilt_of(u, self.there)]
+
+    def patterns(self, u):
+        if not self.fits(u):
+            return [DOES_NOT_FIT]
+        counts = pattern_counts(u, self.there)
+        return [len(counts)] + counts
+
+    def even(self, u):
+        if not self.fits(u):
+            return [DOES_NOT_FIT]
+        return [1 if is_even(u, self.there) else 0]
+
+    def strength(self):
+        u = first_uneven(self.bits, self.there)
+        if u is None:
+            return [self.bits]
+        # Even on some places it is even on fewer, so it isn't even on all sets of any more places either.
+        return [weight(u) - 1]
+
+    def uneven(self):
+        u = first_uneven(self.bits, self.there)
+        if u is None:
+            return [EVEN_EVERYWHERE]
+        return [weight(u), u]

@@ -44,6 +44,18 @@ def after(bits, words, *calls):
     return ask(*start, *calls)[len(start):]
 
 
+def each(bits, words, calls):
+    """What many calls, which only look, are answered on these words: as many lines as they need."""
+    out = []
+    for at in range(0, len(calls), 20):
+        out += after(bits, words, *calls[at:at + 20])
+    return out
+
+
+def even_weights(bits):
+    return [word for word in range(1 << bits) if bin(word).count("1") % 2 == 0]
+
+
 # What all there is to an object shows in: how many words, which, and which bits there are.
 SHOW = [(MANY,), (WORDS,)] + [(DIST, 0, 1 << bit) for bit in range(7)]
 

@@ -1,61 +1,13 @@
 """All sets of words of one to three bits, and some of more, each call beside a slow one after the document's words."""
 
-import itertools
 import unittest
 
-from tests.helper import CLOSE, DIST, LEAST, MANY, MOVE, OFF, PUT, REST, SHOW, SWAP, TAKE, WORDS, after, shown
-
-
-def ones(word):
-    return {bit for bit in range(6) if word & (1 << bit)}
-
-
-def far(x, y):
-    return len(ones(x) ^ ones(y))
-
-
-def number(places):
-    return sum(1 << place for place in places)
-
-
-def slow_swap(word, i, j):
-    return number({j if bit == i else i if bit == j else bit for bit in ones(word)})
-
-
-def slow_close(words):
-    held = set(words)
-    while True:
-        more = held | {x ^ y for x in held for y in held}
-        if more == held:
-            return held
-        held = more
-
-
-def slow_off(words, x):
-    if not words:
-        return [-6]
-    nearest = min(far(x, word) for word in words)
-    return [nearest, len([word for word in words if far(x, word) == nearest])]
-
-
-def slow_least(words):
-    if len(words) < 2:
-        return [-33]
-    return [min(far(x, y) for x, y in itertools.combinations(words, 2))]
-
-
-def some_sets():
-    for bits in range(1, 4):
-        for chosen in range(1 << (1 << bits)):
-            yield bits, [word for word in range(1 << bits) if chosen & (1 << word)]
-    for bits in range(4, 7):
-        every = range(1 << bits)
-        for step in range(2, 12):
-            yield bits, [word for word in every if word * step % 7 in (1, 3)]
-            yield bits, [word for word in every if word % step == step - 1]
-            yield bits, [word for word in every if far(word, step) % 3 == 0]
-        for weight in range(bits + 1):
-            yield bits, [word for word in every if far(word, 0) == weight]
+from tests.helper import (
+    ALIKE, CLOSE, CLOSED, DIST, EVEN, FARTHEST, LEAST, MANY, MOVE, OFF, PATTERNS, PUT, REST, SHOW, SIGN, STRENGTH, SUMS,
+    SWAP, TAKE, TILT, TWOS, UNEVEN, WORDS, after, shown)
+from tests.slow import (
+    alike, closed, closed_up, even, far, farthest, least, number, off, ones, patterns, sign_sum, some_sets, strength,
+    sums, swapped, tilt, twos, uneven)
 
 
 class EverythingSmall(unittest.TestCase):
@@ -78,8 +30,8 @@ class EverythingSmall(unittest.TestCase):
         for bits, words in some_sets():
             others = set(range(1 << bits)) - set(words)
             self.check_change(bits, words, (REST,), len(others), others)
-            closed = slow_close(words)
-            self.check_change(bits, words, (CLOSE,), len(closed), closed)
+            become = closed_up(words)
+            self.check_change(bits, words, (CLOSE,), len(become), become)
 
     def test_move(self):
         for bits, words in some_sets():
@@ -90,7 +42,7 @@ class EverythingSmall(unittest.TestCase):
         for bits, words in some_sets():
             for i in range(bits):
                 for j in range(bits):
-                    self.check_change(bits, words, (SWAP, i, j), 0, {slow_swap(word, i, j) for word in words})
+                    self.check_change(bits, words, (SWAP, i, j), 0, {swapped(word, i, j) for word in words})
 
     def test_looks(self):
         for bits, words in some_sets():
@@ -99,7 +51,7 @@ class EverythingSmall(unittest.TestCase):
             with self.subTest(bits=bits, words=words):
                 self.assertEqual(
                     after(bits, words, *calls),
-                    [[len(words)], [len(words)] + words, slow_least(words)] + [slow_off(words, x) for x in xs])
+                    [[len(words)], [len(words)] + words, least(words)] + [off(words, x) for x in xs])
 
     def test_dist(self):
         for bits in range(1, 7):
@@ -111,9 +63,50 @@ class EverythingSmall(unittest.TestCase):
     def test_moved_or_swapped_distances_stay(self):
         for bits, words in some_sets():
             with self.subTest(bits=bits, words=words):
-                least = slow_least(words)
+                same = least(words)
                 self.assertEqual(
-                    after(bits, words, (MOVE, 1), (LEAST,), (SWAP, 0, bits - 1), (LEAST,)), [[0], least, [0], least])
+                    after(bits, words, (MOVE, 1), (LEAST,), (SWAP, 0, bits - 1), (LEAST,)), [[0], same, [0], same])
+
+    def test_farthest_and_closed(self):
+        for bits, words in some_sets():
+            with self.subTest(bits=bits, words=words):
+                self.assertEqual(after(bits, words, (FARTHEST,), (CLOSED,)), [farthest(bits, words), closed(words)])
+
+    def test_alike(self):
+        for bits, words in some_sets():
+            xs = range(0, 1 << bits, 1 if bits < 5 else 5)
+            with self.subTest(bits=bits, words=words):
+                self.assertEqual(
+                    after(bits, words, *[(ALIKE, x) for x in xs]), [alike(bits, words, x) for x in xs])
+
+    def test_twos_and_sums(self):
+        for bits, words in some_sets():
+            with self.subTest(bits=bits, words=words):
+                self.assertEqual(
+                    after(bits, words, (TWOS,), (SUMS,)),
+                    [[bits + 1] + twos(bits, words), [bits + 1] + sums(bits, words)])
+
+    def test_sign(self):
+        for bits in range(1, 7):
+            for k in range(bits + 1):
+                for i in range(bits + 1):
+                    with self.subTest(bits=bits, k=k, i=i):
+                        self.assertEqual(after(bits, [], (SIGN, k, i)), [[0, sign_sum(bits, k, i)]])
+
+    def test_tilt_patterns_and_even(self):
+        for bits, words in some_sets():
+            for u in range(1 << bits):
+                counts = patterns(words, u)
+                with self.subTest(bits=bits, words=words, u=u):
+                    self.assertEqual(
+                        after(bits, words, (TILT, u), (PATTERNS, u), (EVEN, u)),
+                        [[0, tilt(words, u)], [len(counts)] + counts, [1 if even(words, u) else 0]])
+
+    def test_strength_and_uneven(self):
+        for bits, words in some_sets():
+            with self.subTest(bits=bits, words=words):
+                self.assertEqual(
+                    after(bits, words, (STRENGTH,), (UNEVEN,)), [[strength(bits, words)], uneven(bits, words)])
 
 
 if __name__ == "__main__":

@@ -109,6 +109,11 @@ class Language(unittest.TestCase):
                     self.assertIn(type(node.value), (int, str, bool, type(None)))
                 if isinstance(node, ast.BinOp) and isinstance(node.op, ast.Pow):
                     self.assertIsInstance(node.right, ast.Constant)
+                if isinstance(node, ast.Compare):
+                    for sign, right in zip(node.ops, node.comparators):
+                        if isinstance(sign, (ast.Is, ast.IsNot)):
+                            self.assertIn(getattr(right, "value", ""), (None, True, False))
+                self.assertIsNone(getattr(node, "annotation", None) or getattr(node, "returns", None))
                 if isinstance(node, ast.arguments):
                     self.assertFalse(node.vararg or node.kwarg or node.kwonlyargs or node.posonlyargs)
 
